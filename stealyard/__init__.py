@@ -1,0 +1,1 @@
+"""Stealyard: rows of tasks, taken from behind and from ahead."""
