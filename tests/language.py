@@ -1,8 +1,9 @@
-"""What the files of the package may hold: a part of the language rules, drawn narrower.
+"""Checks of the package's files against a part of the language rules, more strictly than they ask.
 
 The rules let more through than this does (classes with methods, sets, generators, handlers ..), each
 under conditions of its own. What the package needs of that is let in here when it needs it, with its
-conditions. Each fault is told as a line of text that begins with the rule.
+conditions. Some rules are left to the reader: how many arguments a call passes, and what a function
+does to what it is passed. Each fault is told as a line of text that begins with the rule.
 """
 
 import ast
