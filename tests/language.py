@@ -40,7 +40,8 @@ NODES = (
     ast.Call, ast.Compare, ast.BoolOp, ast.UnaryOp, ast.BinOp, ast.IfExp, ast.JoinedStr,
     ast.FormattedValue, ast.Load, ast.Store, ast.Eq, ast.NotEq, ast.Lt, ast.LtE, ast.Gt, ast.GtE,
     ast.In, ast.NotIn, ast.Is, ast.IsNot, ast.And, ast.Or, ast.Not, ast.USub, ast.Add, ast.Sub,
-    ast.Mult, ast.FloorDiv, ast.Mod,
+    ast.Mult, ast.FloorDiv, ast.Mod, ast.Match, ast.match_case, ast.MatchSequence, ast.MatchValue,
+    ast.MatchAs,
 )
 
 
@@ -74,7 +75,7 @@ def file_faults(source):
     found = text_faults(source) + module_faults(tree)
     found += [fault for node in ast.walk(tree) for fault in node_faults(node)]
     if not found:
-        found = name_faults(tree) + use_faults(tree)
+        found = name_faults(tree) + use_faults(tree) + match_faults(tree)
     return found
 
 
@@ -239,6 +240,7 @@ def name_faults(tree):
         names = [part for part in ast.walk(function) if isinstance(part, ast.Name)]
         own = {part.arg for part in ast.walk(function) if isinstance(part, ast.arg)}
         own |= {part.id for part in names if isinstance(part.ctx, ast.Store)}
+        own |= captures(function)
         for name in sorted(own & (at_top | set(dir(builtins)))):
             found.append(f"L15 {function.name}: {name} is the name of something else")
         for part in names:
@@ -246,6 +248,47 @@ def name_faults(tree):
                 found.append(f"L8 line {part.lineno}: {part.id}")
             if isinstance(part.ctx, ast.Load) and part.id == "_":
                 found.append(f"L12 line {part.lineno}: _ is read")
+    return found
+
+
+def captures(node):
+    """The names that the patterns within a node capture."""
+    return {part.name for part in ast.walk(node) if isinstance(part, ast.MatchAs) and part.name}
+
+
+def match_faults(tree):
+    """Patterns are of literals, names and sequences; what a case captures is read there alone, and not bound."""
+    found = []
+    for part in ast.walk(tree):
+        at = getattr(part, "lineno", 0)
+        if isinstance(part, ast.match_case) and part.guard:
+            found.append(f"L6 line {part.pattern.lineno}: a test in a case")
+        if isinstance(part, ast.MatchAs) and part.pattern:
+            found.append(f"L6 line {at}: as, in a pattern")
+        if isinstance(part, ast.MatchValue):
+            told = part.value
+            if not isinstance(told, ast.Constant) or not isinstance(told.value, (int, str)):
+                found.append(f"L6 line {at}: neither a number nor a string in a pattern")
+    for function in [part for part in tree.body if isinstance(part, ast.FunctionDef)]:
+        cases = [part for part in ast.walk(function) if isinstance(part, ast.match_case)]
+        bound = {part.arg for part in ast.walk(function) if isinstance(part, ast.arg)}
+        names = [part for part in ast.walk(function) if isinstance(part, ast.Name)]
+        bound |= {part.id for part in names if isinstance(part.ctx, ast.Store)}
+        for name in sorted(captures(function) & bound):
+            found.append(f"L6 {function.name}: {name} is captured, and bound otherwise")
+        allowed = []
+        for case in cases:
+            own = captures(case.pattern)
+            inner = {name for statement in case.body for name in captures(statement)}
+            for name in sorted(own & inner):
+                found.append(f"L6 {function.name}: {name} is captured again inside its case")
+            allowed += [
+                part for statement in case.body for part in ast.walk(statement)
+                if isinstance(part, ast.Name) and part.id in own
+            ]
+        for part in names:
+            if part.id in captures(function) and part not in allowed:
+                found.append(f"L6 line {part.lineno}: {part.id} is read outside of its case")
     return found
 
 

@@ -40,6 +40,28 @@ WRONG = [
     ("L6", "def told(a):\n    return lambda: a\n"),
     ("L6", "def told(a):\n    return a / 2\n"),
     ("L6", "def told(a):\n    return [*a, 1]\n"),
+    ("L3", "match 1:\n    case 1:\n        pass\n"),
+    ("L6", "def told(a):\n    match a:\n        case [b, *c]:\n            return b\n"),
+    ("L6", "def told(a):\n    match a:\n        case {'b': b}:\n            return b\n"),
+    ("L6", "def told(a):\n    match a:\n        case int():\n            return a\n"),
+    ("L6", "def told(a):\n    match a:\n        case 1 | 2:\n            return a\n"),
+    ("L6", "def told(a):\n    match a:\n        case None:\n            return a\n"),
+    ("L6", "def told(a):\n    match a:\n        case (b, 1) as c:\n            return b\n"),
+    ("L6", "def told(a):\n    match a:\n        case (b, 1) if b:\n            return b\n"),
+    ("L6", "def told(a):\n    match a:\n        case -1:\n            return a\n"),
+    ("L6", "def told(a):\n    match a:\n        case (a, 1):\n            return a\n"),
+    ("L6", "def told(a):\n    match a:\n        case (b, 1):\n            b = 2\n    return a\n"),
+    ("L6", "def told(a):\n    match a:\n        case (b, 1):\n            pass\n    return b\n"),
+    ("L6", "def told(a):\n    match a:\n        case (b, 1):\n            pass\n        case (c, 2):\n            return b\n"),
+    (
+        "L6",
+        "def told(a):\n    match a:\n        case (b, c):\n            match c:\n                case (b, 1):\n"
+        "                    return b\n",
+    ),
+    ("L15", "def told(a):\n    match a:\n        case ('b', len):\n            return a\n"),
+    ("L15", "B = 1\n\n\ndef told(a):\n    match a:\n        case ('b', B):\n            return a\n"),
+    ("L12", "def told(a):\n    match a:\n        case ('b', __c):\n            return a\n"),
+    ("L27", "def told(a):\n    match a:\n        case _:\n            return a\n        case 1:\n            return 1\n"),
     ("L7", "def told(a):\n    return a * 0.5\n"),
     ("L7", "def told(a):\n    return f'{a:>5}'\n"),
     ("L7", "def told(a):\n    return f'{a!r}'\n"),
@@ -80,6 +102,10 @@ RIGHT = [
     '"""A file."""\n\nfrom stealyard.errors import Early\n\nA = 1\nB = ("b", -1, None)\n',
     "def told(a):\n    _, b = a\n    return [c for c in b if c is not None], sorted(b)\n",
     "def told(a):\n    b = {}\n    for c, d in enumerate(a):\n        b[c] = d\n    return list(b.items())\n",
+    (
+        "def told(a):\n    match a:\n        case ('b', c, (_, d)):\n            return c, d\n"
+        "        case (c, 1):\n            return c\n        case _:\n            return a\n"
+    ),
     "class Told(ValueError):\n    \"\"\"Told.\"\"\"\n\n\ndef told(a):\n    raise Told(f'{a} of {len(a)}')\n",
 ]
 

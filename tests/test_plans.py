@@ -5,6 +5,7 @@ import inspect
 import itertools
 import unittest
 
+import readings
 from stealyard import plans
 from stealyard.errors import Early, NoCrew, NoStep, NoTask, NoWorker, TooMany, Twice, YardError
 from stealyard.plans import checked, coming
@@ -47,17 +48,6 @@ def refusal_due(plan):
         if number in [other for _, other in numbers[:at]]:
             return Twice
     return None
-
-
-def tasks_that_come(plan):
-    """Point 4 by its words, until no further task comes."""
-    brood, starts = plan
-    found = {task for row in starts for task in row}
-    while True:
-        more = {child for task in found for child in brood[task]} - found
-        if not more:
-            return sorted(found)
-        found |= more
 
 
 def small_rows(numbers, longest):
@@ -382,7 +372,7 @@ class ComingTest(unittest.TestCase):
         many = 0
         for plan in good_three_task_plans():
             many += 1
-            self.assertEqual(coming(plan), tasks_that_come(plan), plan)
+            self.assertEqual(coming(plan), readings.second_coming(plan), plan)
         self.assertGreater(many, 50)
 
 
